@@ -1,0 +1,104 @@
+"""[0.2] to [0.5]: kinds of results, nothing passed is changed, equal calls, deep things."""
+import unittest
+
+from moststream.errors import StreamError
+from moststream.kinds import is_int, is_lot, is_number, is_number_below
+from moststream.states import begun, heard, is_state, is_word, started
+from moststream.streams import is_paper, is_split, is_stream, most, room, side_of, side_worth, split, worth
+from moststream.webs import Web, lets, neighbours
+from tests.drawn import nested, odd_things
+
+TIES = ((0, 1, 3, 0), (1, 2, 2, 0))
+WEB = Web(3, TIES, 0, 2)
+
+
+def all_answers(thing):
+    """What comes of each argument that may be of any kind: an answer, or the error's class."""
+    calls = [
+        lambda: Web(thing, TIES, 0, 2), lambda: Web(3, thing, 0, 2), lambda: Web(3, (thing,), 0, 2),
+        lambda: Web(3, TIES, thing, 2), lambda: Web(3, TIES, 0, thing), lambda: neighbours(WEB, thing),
+        lambda: lets(WEB, thing, 1), lambda: lets(WEB, 1, thing), lambda: is_stream(WEB, thing),
+        lambda: worth(WEB, thing), lambda: room(WEB, thing, 0, 1), lambda: room(WEB, (2, 2), thing, 1),
+        lambda: room(WEB, (2, 2), 1, thing), lambda: side_worth(WEB, thing), lambda: side_of(WEB, thing),
+        lambda: is_paper(WEB, thing, (0,)), lambda: is_paper(WEB, (2, 2), thing), lambda: split(WEB, thing),
+        lambda: is_split(WEB, thing, ()), lambda: is_split(WEB, (2, 2), thing), lambda: begun(WEB, thing),
+        lambda: is_word(thing), lambda: is_state(WEB, thing, None), lambda: is_state(WEB, 1, thing),
+        lambda: started(WEB, thing, begun(WEB, 0)), lambda: heard(WEB, thing, begun(WEB, 1), 0, ("pour", 3)),
+        lambda: heard(WEB, 1, begun(WEB, 1), thing, ("pour", 3)), lambda: heard(WEB, 1, begun(WEB, 1), 0, thing),
+    ]
+    answers = []
+    for call in calls:
+        try:
+            answers.append(call())
+        except StreamError as error:
+            answers.append((type(error), vars(error)))
+    return answers
+
+
+def only_plain(thing):
+    """Whether a thing is an integer, a string, None, or a tuple of such."""
+    if type(thing) is tuple:
+        return all(only_plain(item) for item in thing)
+    return thing is None or type(thing) in (int, str)
+
+
+class Arguments(unittest.TestCase):
+    def test_no_other_error_whatever_is_passed(self):
+        for thing in odd_things() + [(0, 1), (2, 2), ("pour", 3), 1]:
+            with self.subTest(repr(thing)[:60]):
+                self.assertEqual(len(all_answers(thing)), 28)
+
+    def test_nothing_passed_is_changed(self):
+        def lists():
+            return [[], [0, 1], [[0, 1, 3, 0]], {0: [1]}, {"pour": 3}, ["pour", 3], [[0, 1, 2], 2],
+                    ([0, 1, 2], 2), ((0, 1, 2), [2]), ([2], 2), nested(40, list), ("awake", 0, 0, [0, 0], [0], {})]
+        for thing, same in zip(lists(), lists()):
+            all_answers(thing)
+            self.assertEqual(thing, same)
+            self.assertIs(type(thing), type(same))
+
+    def test_equal_calls_give_equal_answers(self):
+        for thing in ((), (0,), (0, 1), (2, 2), 1, ("pour", 3), None, nested(40, tuple)):
+            self.assertEqual(all_answers(thing), all_answers(thing))
+
+    def test_a_web_does_not_change(self):
+        all_answers((0, 1))
+        started(WEB, 0, begun(WEB, 0))
+        self.assertEqual((WEB.many, WEB.ties, WEB.spring, WEB.mouth), (3, ((0, 1, 3, 0), (1, 2, 2, 0)), 0, 2))
+        self.assertEqual(WEB, Web(3, TIES, 0, 2))
+
+
+class Results(unittest.TestCase):
+    def test_are_of_the_listed_kinds(self):
+        states = [begun(WEB, house) for house in range(3)]
+        results = [neighbours(WEB, 1), lets(WEB, 0, 1), worth(WEB, (2, 2)), room(WEB, (2, 2), 0, 1), most(WEB),
+                   side_worth(WEB, (0, 1)), side_of(WEB, (2, 2)), side_of(WEB, (0, 0)), split(WEB, (2, 2)), *states,
+                   started(WEB, 0, states[0]), heard(WEB, 1, states[1], 0, ("pour", 3)),
+                   heard(WEB, 2, states[2], 1, ("push", 2, 1))]
+        for result in results:
+            self.assertTrue(only_plain(result), result)
+        flags = [is_stream(WEB, (2, 2)), is_stream(WEB, 0), is_paper(WEB, (2, 2), (0, 1)), is_paper(WEB, (0, 0), ()),
+                 is_split(WEB, (2, 2), (((0, 1, 2), 2),)), is_split(WEB, (2, 2), ()), is_word(("yes",)), is_word(()),
+                 is_word(("push", 1, 1)), is_state(WEB, 0, states[0]), is_state(WEB, 0, states[1])]
+        for flag in flags:
+            self.assertIs(type(flag), bool)
+
+
+class Kinds(unittest.TestCase):
+    def test_integers_and_numbers(self):
+        for thing in (0, 1, 10 ** 19):
+            self.assertTrue(is_int(thing) and is_int(-thing) and is_number(thing))
+        self.assertFalse(is_number(-1))
+        for thing in (True, False, None, "1", b"1", (1,), [1]):
+            self.assertFalse(is_int(thing) or is_number(thing) or is_number_below(5, thing))
+        self.assertEqual([is_number_below(2, number) for number in (-1, 0, 1, 2)], [False, True, True, False])
+
+    def test_lots(self):
+        for thing in ((), (0,), (0, 1, 5)):
+            self.assertTrue(is_lot(thing))
+        for thing in ([], (1, 0), (0, 0), (-1, 0), (False, 1), (0, "1"), None, "01", ((0,),)):
+            self.assertFalse(is_lot(thing))
+
+
+if __name__ == "__main__":
+    unittest.main()
