@@ -14,6 +14,11 @@ def is_number_below(limit, thing):
     return is_number(thing) and thing < limit
 
 
+def is_tuple_of(many, thing):
+    """Whether a thing is a tuple of so many."""
+    return isinstance(thing, tuple) and len(thing) == many
+
+
 def is_lot(thing):
     """Whether a thing is a tuple of numbers, each greater than the one ahead."""
     if not isinstance(thing, tuple) or not all([is_number(item) for item in thing]):

@@ -1,6 +1,6 @@
 """What a house knows and does: its state, the words it hears, and those it sends."""
 from moststream.errors import NotSpring, NoWord
-from moststream.kinds import is_int, is_number, is_number_below
+from moststream.kinds import is_int, is_number, is_number_below, is_tuple_of
 from moststream.webs import check_house, lets, neighbours
 
 UNITS_LIMIT = 1000000000
@@ -33,7 +33,7 @@ def is_word(thing):
 def is_state(web, house, thing):
     """Whether a thing is a state of a house by its form."""
     check_house(web, house)
-    if not isinstance(thing, tuple) or len(thing) != 6:
+    if not is_tuple_of(6, thing):
         return False
     stage, height, held, streams, beliefs, sent = thing
     if not isinstance(stage, str) or stage not in ("asleep", "awake"):
@@ -41,7 +41,7 @@ def is_state(web, house, thing):
     if not _is_height(height) or not is_int(held):
         return False
     around = neighbours(web, house)
-    if not all([isinstance(part, tuple) and len(part) == len(around) for part in (streams, beliefs, sent)]):
+    if not all([is_tuple_of(len(around), part) for part in (streams, beliefs, sent)]):
         return False
     if not all([_is_height(belief) for belief in beliefs]):
         return False

@@ -1,42 +1,43 @@
 """Streams on a web: their worth and room, sides and papers, and splits into ways."""
 from moststream.errors import NoSide, NoStream
-from moststream.kinds import is_int, is_lot, is_number_below
+from moststream.kinds import is_int, is_lot, is_number_below, is_tuple_of
 from moststream.webs import lets
 
 
 def is_stream(web, thing):
     """Whether a thing is a tuple of what goes through each tie, and nothing stays on its way."""
-    if not isinstance(thing, tuple) or len(thing) != len(web.ties):
+    if not is_tuple_of(len(web.ties), thing):
         return False
     if not all([_fits(tie, units) for tie, units in zip(web.ties, thing)]):
         return False
     between = [house for house in range(web.many) if house not in (web.spring, web.mouth)]
-    return all([_gain(web, thing, house) == 0 for house in between])
+    return all([gain(web, thing, house) == 0 for house in between])
 
 
 def _fits(tie, units):
     return is_int(units) and -tie[3] <= units <= tie[2]
 
 
-def _gain(web, stream, house):
+def gain(web, stream, house):
     """How many units come to a house, less those that go from it."""
     come = sum([units for tie, units in zip(web.ties, stream) if tie[1] == house])
     go = sum([units for tie, units in zip(web.ties, stream) if tie[0] == house])
     return come - go
 
 
-def _check_stream(web, stream):
+def check_stream(web, stream):
+    """NoStream for what is no stream of the web."""
     if not is_stream(web, stream):
         raise NoStream()
 
 
 def worth(web, stream):
     """How many units come to the mouth, less those that go from it."""
-    _check_stream(web, stream)
-    return _gain(web, stream, web.mouth)
+    check_stream(web, stream)
+    return gain(web, stream, web.mouth)
 
 
-def _units_each_way(web, stream):
+def units_each_way(web, stream):
     """For each pair of tied houses, both ways, the units from the one to the other."""
     units_of = {}
     for tie, units in zip(web.ties, stream):
@@ -45,7 +46,7 @@ def _units_each_way(web, stream):
     return units_of
 
 
-def _room_each_way(web, stream):
+def room_each_way(web, stream):
     """For each pair of tied houses, both ways, the room from the one to the other."""
     room_of = {}
     for (one, other, there, back), units in zip(web.ties, stream):
@@ -56,10 +57,10 @@ def _room_each_way(web, stream):
 
 def room(web, stream, one, other):
     """How many more units the tie lets through from the one to the other."""
-    _check_stream(web, stream)
+    check_stream(web, stream)
     # Asked first, because it raises what is due for houses and ties.
     through = lets(web, one, other)
-    return through - _units_each_way(web, stream)[(one, other)]
+    return through - units_each_way(web, stream)[(one, other)]
 
 
 def _reached(web, free):
@@ -99,7 +100,7 @@ def _narrowest(free, way):
 
 def most(web):
     """The greatest worth of a stream: shortest ways with room are filled until there is none."""
-    free = _room_each_way(web, (0,) * len(web.ties))
+    free = room_each_way(web, (0,) * len(web.ties))
     total = 0
     ahead = _reached(web, free)
     while web.mouth in ahead:
@@ -130,8 +131,8 @@ def side_worth(web, side):
 
 def side_of(web, stream):
     """The lot of the houses that ways with room reach from the spring, None if the mouth is one."""
-    _check_stream(web, stream)
-    ahead = _reached(web, _room_each_way(web, stream))
+    check_stream(web, stream)
+    ahead = _reached(web, room_each_way(web, stream))
     if web.mouth in ahead:
         return None
     return tuple(sorted(ahead))
@@ -148,7 +149,7 @@ def split(web, stream):
     left = worth(web, stream)
     if left < 0:
         return None
-    free = _units_each_way(web, stream)
+    free = units_each_way(web, stream)
     parts = []
     while left > 0:
         way = _way_to_mouth(web, _reached(web, free))
@@ -166,7 +167,7 @@ def is_split(web, stream, thing):
     total = worth(web, stream)
     if total < 0 or not isinstance(thing, tuple) or len(thing) > len(web.ties):
         return False
-    free = _units_each_way(web, stream)
+    free = units_each_way(web, stream)
     if not all([_is_part(web, free, part) for part in thing]):
         return False
     used = _units_used(thing)
@@ -175,7 +176,7 @@ def is_split(web, stream, thing):
 
 def _is_part(web, tied, thing):
     """Whether a thing is a pair of a way and its units; tied has the pairs of tied houses as keys."""
-    if not isinstance(thing, tuple) or len(thing) != 2:
+    if not is_tuple_of(2, thing):
         return False
     way, units = thing
     return _is_way(web, tied, way) and is_int(units) and units > 0

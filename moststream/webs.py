@@ -1,6 +1,6 @@
 """Webs: houses, the ties between them, the spring and the mouth."""
 from moststream.errors import BadWeb, NoHouse, NoTie
-from moststream.kinds import is_number_below
+from moststream.kinds import is_number_below, is_tuple_of
 
 FEWEST_HOUSES = 2
 MOST_HOUSES = 10
@@ -21,6 +21,9 @@ class Web:
         self.ties = ties
         self.spring = spring
         self.mouth = mouth
+        # Kept because every word that is heard asks for them, again and again.
+        self.through = _through(ties)
+        self.around = tuple([_around(self.through, house) for house in range(many)])
 
     def __eq__(self, other):
         return (isinstance(other, Web) and self.many == other.many and self.ties == other.ties
@@ -42,11 +45,25 @@ def _check_ties(many, ties):
 
 
 def _is_tie(many, thing):
-    if not isinstance(thing, tuple) or len(thing) != 4:
+    if not is_tuple_of(4, thing):
         return False
     one, other, there, back = thing
     return (is_number_below(many, other) and is_number_below(other, one)
             and is_number_below(LETS_LIMIT, there) and is_number_below(LETS_LIMIT, back))
+
+
+def _through(ties):
+    """For each pair of neighbours, both ways, how many units their tie lets through."""
+    units_of = {}
+    for one, other, there, back in ties:
+        units_of[(one, other)] = there
+        units_of[(other, one)] = back
+    return units_of
+
+
+def _around(through, house):
+    """The lot of the houses that are tied to a house."""
+    return tuple(sorted([other for one, other in through if one == house]))
 
 
 def check_house(web, house):
@@ -58,18 +75,18 @@ def check_house(web, house):
 def neighbours(web, house):
     """The lot of the houses that are tied to a house."""
     check_house(web, house)
-    above = [tie[1] for tie in web.ties if tie[0] == house]
-    below = [tie[0] for tie in web.ties if tie[1] == house]
-    return tuple(sorted(below + above))
+    return web.around[house]
+
+
+def are_tied(web, one, other):
+    """Whether two things are houses of the web with a tie between them."""
+    return is_number_below(web.many, one) and is_number_below(web.many, other) and (one, other) in web.through
 
 
 def lets(web, one, other):
     """How many units the tie between two houses lets through from the one to the other."""
     check_house(web, one)
     check_house(web, other)
-    for least, greatest, there, back in web.ties:
-        if (least, greatest) == (one, other):
-            return there
-        if (least, greatest) == (other, one):
-            return back
-    raise NoTie()
+    if (one, other) not in web.through:
+        raise NoTie()
+    return web.through[(one, other)]

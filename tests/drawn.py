@@ -1,5 +1,7 @@
 """Things for the tests: drawn webs and streams, and objects of every kind."""
 from moststream.errors import BadWeb, NoHouse
+from moststream.links import Incoming, Outgoing
+from moststream.records import Record
 from moststream.webs import Web
 
 
@@ -122,6 +124,7 @@ def odd_things():
         (0,) * 20000, [0] * 20000, range(3), slice(1), iter(()), (one for one in ()), Ellipsis, NotImplemented,
         object(), object, int, len, drawn_web, ValueError("many"), ValueError, web, (web,), [web], Web,
         NoHouse(), BadWeb("many"), (BadWeb(()),), NoHouse,
+        Record(web, ()), (Record(web, (("start", 0),)),), Outgoing(), Incoming(), [Outgoing()], ("take", Incoming()),
     ]
 
 
@@ -133,3 +136,28 @@ def no_houses(many):
 def part_of(thing, at, other):
     """The tuple with another item in one place."""
     return thing[:at] + (other,) + thing[at + 1:]
+
+
+def drawn_choices(draw):
+    """Choices, a list or a tuple: none, few or many of them, small ones, or some of twenty figures."""
+    limit = draw.one_of((2, 7, 100, 10 ** 9))
+    choices = [draw.below(limit) for _ in range(draw.one_of((0, 3, 40, 1500)))]
+    if draw.below(3) == 0:
+        choices = [10 ** 20 - 1 - choice for choice in choices]
+    return draw.one_of((list, tuple))(choices)
+
+
+def pours_late(glass, moves):
+    """A move of a glass that takes no pour, if there is one."""
+    words = {way[:2]: way[2][0][0] for way in glass[1]}
+    return next((move for move in moves if words.get(move[1:]) != "pour"), moves[0])
+
+
+def orders(draw):
+    """Ways to choose one of the moves of a glass, by name."""
+    return {
+        "least": lambda glass, moves: moves[0],
+        "last": lambda glass, moves: moves[-1],
+        "drawn": lambda glass, moves: draw.one_of(moves),
+        "pours late": pours_late,
+    }

@@ -1,6 +1,7 @@
-"""The examples of the document, as far as they are built: e01 to e04."""
+"""The examples of the document, as far as they are built: e01 to e05."""
 import unittest
 
+from moststream.ends import bounds, run_out
 from moststream.states import begun, heard, started
 from moststream.streams import most, side_of, side_worth, split, worth
 from moststream.webs import Web, lets, neighbours
@@ -29,6 +30,10 @@ class Examples(unittest.TestCase):
         self.assertEqual(heard(self.web, 1, begun(self.web, 1), 0, ("pour", 3)),
                          (("awake", 1, 1, (-3, 2), (3, 0), (0, 2)),
                           ((0, ("rise", 1)), (2, ("rise", 1)), (2, ("push", 2, 1)))))
+
+    def test_e05(self):
+        self.assertEqual(run_out(self.web, ())[1], (1, 2, 2, 0, 4))
+        self.assertEqual(bounds(self.web), (1, 197, 177, 20, 20))
 
 
 if __name__ == "__main__":

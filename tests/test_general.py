@@ -1,8 +1,13 @@
 """[0.2] to [0.5]: kinds of results, nothing passed is changed, equal calls, deep things."""
 import unittest
 
+from moststream.ends import bounds, run_from, run_out, stream_of
 from moststream.errors import StreamError
+from moststream.glass import broken, first_glass, first_glass_of, is_glass, moved, moves
 from moststream.kinds import is_int, is_lot, is_number, is_number_below
+from moststream.links import Incoming, Outgoing, incoming_of, outgoing_of
+from moststream.records import (Record, by_least, carried, causes, first_wrong, glass_then, is_alike, longest_chain,
+                                recorded, seen, vectors)
 from moststream.states import begun, heard, is_state, is_word, started
 from moststream.streams import is_paper, is_split, is_stream, most, room, side_of, side_worth, split, worth
 from moststream.webs import Web, lets, neighbours
@@ -10,6 +15,9 @@ from tests.drawn import nested, odd_things
 
 TIES = ((0, 1, 3, 0), (1, 2, 2, 0))
 WEB = Web(3, TIES, 0, 2)
+GLASS = first_glass(WEB)
+STARTED = moved(WEB, GLASS, ("start", 0))
+RUN = recorded(WEB, ())
 
 
 def all_answers(thing):
@@ -26,6 +34,10 @@ def all_answers(thing):
         lambda: started(WEB, thing, begun(WEB, 0)), lambda: heard(WEB, thing, begun(WEB, 1), 0, ("pour", 3)),
         lambda: heard(WEB, 1, begun(WEB, 1), thing, ("pour", 3)), lambda: heard(WEB, 1, begun(WEB, 1), 0, thing),
     ]
+    return answers_of(calls)
+
+
+def answers_of(calls):
     answers = []
     for call in calls:
         try:
@@ -33,6 +45,21 @@ def all_answers(thing):
         except StreamError as error:
             answers.append((type(error), vars(error)))
     return answers
+
+
+def later_answers(thing):
+    """The same for what stands behind the houses: glasses, ends, records and links."""
+    return answers_of([
+        lambda: is_glass(WEB, thing), lambda: first_glass_of(WEB, thing), lambda: moves(WEB, thing),
+        lambda: moved(WEB, thing, ("start", 0)), lambda: moved(WEB, STARTED, thing), lambda: broken(WEB, thing),
+        lambda: run_out(WEB, thing), lambda: run_from(WEB, thing, ()), lambda: run_from(WEB, (1, 1), thing),
+        lambda: stream_of(WEB, thing), lambda: Record(WEB, thing), lambda: Record(WEB, (thing,)),
+        lambda: glass_then(RUN, thing), lambda: seen(RUN, thing), lambda: is_alike(RUN, thing),
+        lambda: carried(RUN, thing, 1), lambda: carried(RUN, 1, thing), lambda: recorded(WEB, thing),
+        lambda: Outgoing().known(thing), lambda: outgoing_of(thing).state(), lambda: Incoming().take(thing, (1,)),
+        lambda: incoming_of(thing).state(), lambda: is_glass(WEB, (thing, ())),
+        lambda: is_glass(WEB, (GLASS[0], thing)),
+    ])
 
 
 def only_plain(thing):
@@ -44,25 +71,33 @@ def only_plain(thing):
 
 class Arguments(unittest.TestCase):
     def test_no_other_error_whatever_is_passed(self):
-        for thing in odd_things() + [(0, 1), (2, 2), ("pour", 3), 1]:
+        for thing in odd_things() + [(0, 1), (2, 2), ("pour", 3), 1, GLASS, ("take", 0, 1), RUN, (0, ())]:
             with self.subTest(repr(thing)[:60]):
                 self.assertEqual(len(all_answers(thing)), 28)
+                self.assertEqual(len(later_answers(thing)), 24)
 
     def test_nothing_passed_is_changed(self):
         def lists():
             return [[], [0, 1], [[0, 1, 3, 0]], {0: [1]}, {"pour": 3}, ["pour", 3], [[0, 1, 2], 2],
-                    ([0, 1, 2], 2), ((0, 1, 2), [2]), ([2], 2), nested(40, list), ("awake", 0, 0, [0, 0], [0], {})]
+                    ([0, 1, 2], 2), ((0, 1, 2), [2]), ([2], 2), nested(40, list), ("awake", 0, 0, [0, 0], [0], {}),
+                    [GLASS[0], []], ([*GLASS[0]], ()),
+                    [["start", 0]], (["take", 0, 1, ["yes"]],), ["take", 0, 1], [5, 1, 10 ** 19], (0, [(1,)]),
+                    [0, [[1, [2]]]], (0, ((1, [2]),))]
         for thing, same in zip(lists(), lists()):
             all_answers(thing)
+            later_answers(thing)
             self.assertEqual(thing, same)
             self.assertIs(type(thing), type(same))
 
     def test_equal_calls_give_equal_answers(self):
-        for thing in ((), (0,), (0, 1), (2, 2), 1, ("pour", 3), None, nested(40, tuple)):
+        for thing in ((), (0,), (0, 1), (2, 2), 1, ("pour", 3), None, nested(40, tuple), GLASS, ("take", 0, 1),
+                      (0, ())):
             self.assertEqual(all_answers(thing), all_answers(thing))
+            self.assertEqual(later_answers(thing), later_answers(thing))
 
     def test_a_web_does_not_change(self):
         all_answers((0, 1))
+        later_answers((0, 1))
         started(WEB, 0, begun(WEB, 0))
         self.assertEqual((WEB.many, WEB.ties, WEB.spring, WEB.mouth), (3, ((0, 1, 3, 0), (1, 2, 2, 0)), 0, 2))
         self.assertEqual(WEB, Web(3, TIES, 0, 2))
@@ -74,12 +109,18 @@ class Results(unittest.TestCase):
         results = [neighbours(WEB, 1), lets(WEB, 0, 1), worth(WEB, (2, 2)), room(WEB, (2, 2), 0, 1), most(WEB),
                    side_worth(WEB, (0, 1)), side_of(WEB, (2, 2)), side_of(WEB, (0, 0)), split(WEB, (2, 2)), *states,
                    started(WEB, 0, states[0]), heard(WEB, 1, states[1], 0, ("pour", 3)),
-                   heard(WEB, 2, states[2], 1, ("push", 2, 1))]
+                   heard(WEB, 2, states[2], 1, ("push", 2, 1)), GLASS, STARTED, first_glass_of(WEB, (2, 2)),
+                   moves(WEB, STARTED), broken(WEB, STARTED), run_out(WEB, [1]), run_from(WEB, (1, 1), [3]),
+                   stream_of(WEB, STARTED), bounds(WEB), RUN.events, first_wrong(RUN), glass_then(RUN, 3), causes(RUN),
+                   vectors(RUN), longest_chain(RUN), seen(RUN, 1), carried(RUN, 0, 1), by_least(RUN).events,
+                   first_wrong(Record(WEB, (("start", 1),)))]
         for result in results:
             self.assertTrue(only_plain(result), result)
         flags = [is_stream(WEB, (2, 2)), is_stream(WEB, 0), is_paper(WEB, (2, 2), (0, 1)), is_paper(WEB, (0, 0), ()),
                  is_split(WEB, (2, 2), (((0, 1, 2), 2),)), is_split(WEB, (2, 2), ()), is_word(("yes",)), is_word(()),
-                 is_word(("push", 1, 1)), is_state(WEB, 0, states[0]), is_state(WEB, 0, states[1])]
+                 is_glass(WEB, GLASS), is_glass(WEB, ()), is_glass(WEB, (GLASS[0], [])), is_alike(RUN, RUN),
+                 is_alike(RUN, Record(WEB, ())), is_alike(RUN, ()), is_word(("push", 1, 1)),
+                 is_state(WEB, 0, states[0]), is_state(WEB, 0, states[1])]
         for flag in flags:
             self.assertIs(type(flag), bool)
 

@@ -12,6 +12,21 @@ INTERFACE = {
                 "side_of": ["web", "stream"], "split": ["web", "stream"]},
     "states": {"begun": ["web", "house"], "is_word": ["thing"], "is_state": ["web", "house", "thing"],
                "started": ["web", "house", "state"], "heard": ["web", "house", "state", "sender", "word"]},
+    "glass": {"first_glass": ["web"], "first_glass_of": ["web", "stream"], "moved": ["web", "glass", "move"],
+              "is_glass": ["web", "thing"], "moves": ["web", "glass"], "broken": ["web", "glass"]},
+    "ends": {"run_out": ["web", "choices"], "run_from": ["web", "stream", "choices"], "stream_of": ["web", "glass"],
+             "bounds": ["web"]},
+    "records": {"Record": ["web", "events"], "first_wrong": ["record"], "glass_then": ["record", "at"],
+                "causes": ["record"], "vectors": ["record"], "seen": ["record", "house"], "longest_chain": ["record"],
+                "carried": ["record", "one", "other"], "is_alike": ["record", "thing"], "by_least": ["record"],
+                "recorded": ["web", "choices"]},
+    "links": {"Outgoing": [], "outgoing_of": ["state"], "Incoming": [], "incoming_of": ["state"]},
+}
+METHODS = {
+    ("webs", "Web"): {}, ("records", "Record"): {},
+    ("links", "Outgoing"): {"put": ["thing"], "known": ["number"], "waiting": [], "many_put": [], "state": [],
+                            "copy": []},
+    ("links", "Incoming"): {"take": ["number", "thing"], "taken": [], "held": [], "state": [], "copy": []},
 }
 
 
@@ -27,9 +42,16 @@ class Interface(unittest.TestCase):
                     self.assertEqual(inspect.isclass(thing), name[0].isupper())
 
     def test_methods_stand_in_their_class(self):
-        web = importlib.import_module("moststream.webs").Web
-        self.assertIn("__eq__", vars(web))
-        self.assertIn("__init__", vars(web))
+        for (file, name), methods in METHODS.items():
+            own = vars(getattr(importlib.import_module("moststream." + file), name))
+            self.assertIn("__init__", own)
+            for method, arguments in methods.items():
+                with self.subTest(name, method=method):
+                    self.assertEqual(list(inspect.signature(own[method]).parameters), ["self", *arguments])
+
+    def test_those_with_equality_have_their_own(self):
+        for file, name in (("webs", "Web"), ("records", "Record")):
+            self.assertIn("__eq__", vars(getattr(importlib.import_module("moststream." + file), name)))
 
 
 if __name__ == "__main__":
