@@ -6,6 +6,11 @@ NUMBER_LIMIT = 4294967296
 HELD_AHEAD = 1000
 
 
+def is_link_number(thing):
+    """Whether a thing is a number that a thing on a link can have."""
+    return is_number_below(NUMBER_LIMIT, thing)
+
+
 class Outgoing:
     """The end of a link at which things are put; those wait that are not known to be taken."""
 
@@ -52,15 +57,18 @@ def _outgoing(let_go, things):
     return end
 
 
+def is_outgoing_state(thing):
+    """Whether a thing is the state of an Outgoing by its form."""
+    if not is_tuple_of(2, thing) or not is_link_number(thing[0]) or not isinstance(thing[1], tuple):
+        return False
+    return all([_is_thing(item) for item in thing[1]])
+
+
 def outgoing_of(state):
     """An Outgoing with this state."""
-    if not is_tuple_of(2, state) or not is_number_below(NUMBER_LIMIT, state[0]) or not _are_things(state[1]):
+    if not is_outgoing_state(state):
         raise NoState()
     return _outgoing(state[0], state[1])
-
-
-def _are_things(things):
-    return isinstance(things, tuple) and all([_is_thing(thing) for thing in things])
 
 
 def _is_thing(thing):
@@ -87,7 +95,7 @@ class Incoming:
 
     def take(self, number, thing):
         """Hears a thing with its number: the list of the things that are taken now."""
-        if not is_number_below(NUMBER_LIMIT, number):
+        if not is_link_number(number):
             raise NoNumber()
         if self.many <= number < self.many + HELD_AHEAD and number not in self.ahead:
             self.ahead[number] = thing
@@ -123,9 +131,16 @@ def _incoming(state):
     return end
 
 
+def is_incoming_state(thing):
+    """Whether a thing is the state of an Incoming by its form."""
+    if not is_tuple_of(2, thing) or not is_link_number(thing[0]):
+        return False
+    return _can_be_held(thing[0], thing[1])
+
+
 def incoming_of(state):
     """An Incoming with this state."""
-    if not is_tuple_of(2, state) or not is_number_below(NUMBER_LIMIT, state[0]) or not _can_be_held(state[0], state[1]):
+    if not is_incoming_state(state):
         raise NoState()
     return _incoming(state)
 

@@ -1,6 +1,8 @@
 """Things for the tests: drawn webs and streams, and objects of every kind."""
+from moststream.disks import Disk
 from moststream.errors import BadWeb, NoHouse
 from moststream.links import Incoming, Outgoing
+from moststream.posts import Post
 from moststream.records import Record
 from moststream.webs import Web
 
@@ -125,6 +127,7 @@ def odd_things():
         object(), object, int, len, drawn_web, ValueError("many"), ValueError, web, (web,), [web], Web,
         NoHouse(), BadWeb("many"), (BadWeb(()),), NoHouse,
         Record(web, ()), (Record(web, (("start", 0),)),), Outgoing(), Incoming(), [Outgoing()], ("take", Incoming()),
+        Disk(), (Disk(),), Post(web, 1), [Post(web, 0)],
     ]
 
 

@@ -1,7 +1,8 @@
-"""The examples of the document, as far as they are built: e01 to e05."""
+"""The examples of the document, e01 to e06."""
 import unittest
 
 from moststream.ends import bounds, run_out
+from moststream.rows import parcel_of, row_of
 from moststream.states import begun, heard, started
 from moststream.streams import most, side_of, side_worth, split, worth
 from moststream.webs import Web, lets, neighbours
@@ -34,6 +35,10 @@ class Examples(unittest.TestCase):
     def test_e05(self):
         self.assertEqual(run_out(self.web, ())[1], (1, 2, 2, 0, 4))
         self.assertEqual(bounds(self.web), (1, 197, 177, 20, 20))
+
+    def test_e06(self):
+        self.assertEqual(row_of((True, "a", 300)), (6, 3, 2, 5, 1, 97, 3, 172, 2))
+        self.assertEqual(parcel_of((6, 3, 2, 5, 1, 97, 3, 172, 2)), (True, "a", 300))
 
 
 if __name__ == "__main__":

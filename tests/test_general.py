@@ -1,15 +1,20 @@
 """[0.2] to [0.5]: kinds of results, nothing passed is changed, equal calls, deep things."""
 import unittest
 
+from moststream.disks import Disk, kept_parcels
 from moststream.ends import bounds, run_from, run_out, stream_of
 from moststream.errors import StreamError
 from moststream.glass import broken, first_glass, first_glass_of, is_glass, moved, moves
 from moststream.kinds import is_int, is_lot, is_number, is_number_below
 from moststream.links import Incoming, Outgoing, incoming_of, outgoing_of
+from moststream.posts import Post, post_of
 from moststream.records import (Record, by_least, carried, causes, first_wrong, glass_then, is_alike, longest_chain,
                                 recorded, seen, vectors)
+from moststream.rows import is_parcel, mark, parcel_of, row_of, sealed, unsealed
 from moststream.states import begun, heard, is_state, is_word, started
 from moststream.streams import is_paper, is_split, is_stream, most, room, side_of, side_worth, split, worth
+from moststream.texts import (moves_text, read_moves, read_record, read_split, read_stream, read_web, record_text,
+                              split_text, stream_text, web_text)
 from moststream.webs import Web, lets, neighbours
 from tests.drawn import nested, odd_things
 
@@ -18,6 +23,7 @@ WEB = Web(3, TIES, 0, 2)
 GLASS = first_glass(WEB)
 STARTED = moved(WEB, GLASS, ("start", 0))
 RUN = recorded(WEB, ())
+PAST = Post(WEB, 1).past()
 
 
 def all_answers(thing):
@@ -62,6 +68,27 @@ def later_answers(thing):
     ])
 
 
+def written_disk():
+    disk = Disk()
+    disk.write((1, 2))
+    return disk
+
+
+def lasting_answers(thing):
+    """The same for what lasts and what is written: rows, disks, posts and texts."""
+    return answers_of([
+        lambda: is_parcel(thing), lambda: row_of(thing), lambda: parcel_of(thing), lambda: mark(thing),
+        lambda: sealed(thing), lambda: unsealed(thing), lambda: Disk().write(thing), lambda: written_disk().cut(thing),
+        lambda: written_disk().cut((thing,)), lambda: written_disk().drop(thing), lambda: kept_parcels(thing),
+        lambda: kept_parcels((thing,)), lambda: Post(WEB, thing).past(), lambda: Post(WEB, 1).deed(thing),
+        lambda: Post(WEB, 1).deed(("hear", thing)), lambda: Post(WEB, 1).letter(thing),
+        lambda: post_of(WEB, thing, PAST).past(), lambda: post_of(WEB, 1, thing).past(),
+        lambda: post_of(WEB, 1, (PAST[0], thing, PAST[2])).past(),
+        lambda: post_of(WEB, 1, (PAST[0], PAST[1], thing)).past(), lambda: read_web(thing), lambda: read_stream(thing),
+        lambda: read_split(thing), lambda: read_moves(thing), lambda: read_record(thing),
+    ])
+
+
 def only_plain(thing):
     """Whether a thing is an integer, a string, None, or a tuple of such."""
     if type(thing) is tuple:
@@ -75,6 +102,7 @@ class Arguments(unittest.TestCase):
             with self.subTest(repr(thing)[:60]):
                 self.assertEqual(len(all_answers(thing)), 28)
                 self.assertEqual(len(later_answers(thing)), 24)
+                self.assertEqual(len(lasting_answers(thing)), 25)
 
     def test_nothing_passed_is_changed(self):
         def lists():
@@ -82,22 +110,26 @@ class Arguments(unittest.TestCase):
                     ([0, 1, 2], 2), ((0, 1, 2), [2]), ([2], 2), nested(40, list), ("awake", 0, 0, [0, 0], [0], {}),
                     [GLASS[0], []], ([*GLASS[0]], ()),
                     [["start", 0]], (["take", 0, 1, ["yes"]],), ["take", 0, 1], [5, 1, 10 ** 19], (0, [(1,)]),
-                    [0, [[1, [2]]]], (0, ((1, [2]),))]
+                    [0, [[1, [2]]]], (0, ((1, [2]),)), [1, 2, 3], [(1, 2), ()], ["hear", [1]], ("hear", [1]),
+                    [PAST[0], [], []], (PAST[0], [(0, ())], PAST[2])]
         for thing, same in zip(lists(), lists()):
             all_answers(thing)
             later_answers(thing)
+            lasting_answers(thing)
             self.assertEqual(thing, same)
             self.assertIs(type(thing), type(same))
 
     def test_equal_calls_give_equal_answers(self):
         for thing in ((), (0,), (0, 1), (2, 2), 1, ("pour", 3), None, nested(40, tuple), GLASS, ("take", 0, 1),
-                      (0, ())):
+                      (0, ()), ("a", 5), (6, 0), "stream 1\n", "houses 2 0 1\n", PAST, ("start",)):
             self.assertEqual(all_answers(thing), all_answers(thing))
             self.assertEqual(later_answers(thing), later_answers(thing))
+            self.assertEqual(lasting_answers(thing), lasting_answers(thing))
 
     def test_a_web_does_not_change(self):
         all_answers((0, 1))
         later_answers((0, 1))
+        lasting_answers((0, 1))
         started(WEB, 0, begun(WEB, 0))
         self.assertEqual((WEB.many, WEB.ties, WEB.spring, WEB.mouth), (3, ((0, 1, 3, 0), (1, 2, 2, 0)), 0, 2))
         self.assertEqual(WEB, Web(3, TIES, 0, 2))
@@ -113,14 +145,19 @@ class Results(unittest.TestCase):
                    moves(WEB, STARTED), broken(WEB, STARTED), run_out(WEB, [1]), run_from(WEB, (1, 1), [3]),
                    stream_of(WEB, STARTED), bounds(WEB), RUN.events, first_wrong(RUN), glass_then(RUN, 3), causes(RUN),
                    vectors(RUN), longest_chain(RUN), seen(RUN, 1), carried(RUN, 0, 1), by_least(RUN).events,
-                   first_wrong(Record(WEB, (("start", 1),)))]
+                   first_wrong(Record(WEB, (("start", 1),))), row_of((None, "a")), mark((1,)), sealed(5), unsealed(()),
+                   unsealed(sealed("a")), Post(WEB, 0).state(), PAST, Post(WEB, 0).letter(1),
+                   Post(WEB, 0).deed(("start",)), Post(WEB, 0).deed(("hear", None)), web_text(WEB), stream_text((1, 2)), split_text((((0, 1, 2), 2),)),
+                   moves_text([("start", 0)]), record_text(RUN), read_stream("stream 1\n"), read_split("way 1 0\n"),
+                   read_moves("start 0\n"), Disk().write(()), Disk().sync(), Disk().synced(), Disk().cut(()),
+                   Disk().drop(0)]
         for result in results:
             self.assertTrue(only_plain(result), result)
         flags = [is_stream(WEB, (2, 2)), is_stream(WEB, 0), is_paper(WEB, (2, 2), (0, 1)), is_paper(WEB, (0, 0), ()),
                  is_split(WEB, (2, 2), (((0, 1, 2), 2),)), is_split(WEB, (2, 2), ()), is_word(("yes",)), is_word(()),
                  is_glass(WEB, GLASS), is_glass(WEB, ()), is_glass(WEB, (GLASS[0], [])), is_alike(RUN, RUN),
                  is_alike(RUN, Record(WEB, ())), is_alike(RUN, ()), is_word(("push", 1, 1)),
-                 is_state(WEB, 0, states[0]), is_state(WEB, 0, states[1])]
+                 is_state(WEB, 0, states[0]), is_state(WEB, 0, states[1]), is_parcel(()), is_parcel(""), is_parcel([])]
         for flag in flags:
             self.assertIs(type(flag), bool)
 

@@ -21,12 +21,23 @@ INTERFACE = {
                 "carried": ["record", "one", "other"], "is_alike": ["record", "thing"], "by_least": ["record"],
                 "recorded": ["web", "choices"]},
     "links": {"Outgoing": [], "outgoing_of": ["state"], "Incoming": [], "incoming_of": ["state"]},
+    "rows": {"row_of": ["parcel"], "sealed": ["parcel"], "parcel_of": ["row"], "is_parcel": ["thing"], "mark": ["row"],
+             "unsealed": ["row"]},
+    "disks": {"Disk": [], "kept_parcels": ["blocks"]},
+    "posts": {"Post": ["web", "number"], "post_of": ["web", "number", "past"]},
+    "texts": {"web_text": ["web"], "stream_text": ["stream"], "split_text": ["split"], "moves_text": ["moves"],
+              "record_text": ["record"], "read_web": ["text"], "read_stream": ["text"], "read_split": ["text"],
+              "read_moves": ["text"], "read_record": ["text"]},
 }
+POST = {"state": [], "past": [], "letter": ["to"], "deed": ["thing"], "copy": []}
 METHODS = {
     ("webs", "Web"): {}, ("records", "Record"): {},
     ("links", "Outgoing"): {"put": ["thing"], "known": ["number"], "waiting": [], "many_put": [], "state": [],
                             "copy": []},
     ("links", "Incoming"): {"take": ["number", "thing"], "taken": [], "held": [], "state": [], "copy": []},
+    ("disks", "Disk"): {"write": ["row"], "sync": [], "synced": [], "blocks": [], "cut": ["kept"], "drop": ["number"],
+                        "copy": []},
+    ("posts", "Post"): POST,
 }
 
 
