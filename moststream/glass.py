@@ -121,6 +121,11 @@ def _ways(words_of):
 def moved(web, glass, move):
     """The glass behind a move."""
     check_glass(web, glass)
+    return behind_move(web, glass, move)
+
+
+def behind_move(web, glass, move):
+    """What moved tells, of what is known to be a glass."""
     if not _may_be_move(move) or move not in next_moves(web, glass):
         raise NoMove()
     try:

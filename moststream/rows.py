@@ -22,9 +22,13 @@ NO_SIGN = 37
 SIGNS = " !\"#$ &'()*+,-./0123456789:;<=>?@ABCDEFGHIJKLMNOPQRSTUVWXYZ[\\]^_`abcdefghijklmnopqrstuvwxyz{|}~"
 
 
+def is_byte(thing):
+    return is_number_below(BYTE_LIMIT, thing)
+
+
 def is_row(thing):
     """Whether a thing is a tuple of bytes."""
-    return isinstance(thing, tuple) and all([is_number_below(BYTE_LIMIT, byte) for byte in thing])
+    return isinstance(thing, tuple) and all([is_byte(item) for item in thing])
 
 
 def check_row(row):

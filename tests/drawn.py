@@ -1,9 +1,13 @@
 """Things for the tests: drawn webs and streams, and objects of every kind."""
+from moststream.desks import Desk
 from moststream.disks import Disk
 from moststream.errors import BadWeb, NoHouse
+from moststream.films import Reel
 from moststream.links import Incoming, Outgoing
+from moststream.nets import Net
 from moststream.posts import Post
 from moststream.records import Record
+from moststream.savings import SavedHouse
 from moststream.webs import Web
 
 
@@ -127,7 +131,8 @@ def odd_things():
         object(), object, int, len, drawn_web, ValueError("many"), ValueError, web, (web,), [web], Web,
         NoHouse(), BadWeb("many"), (BadWeb(()),), NoHouse,
         Record(web, ()), (Record(web, (("start", 0),)),), Outgoing(), Incoming(), [Outgoing()], ("take", Incoming()),
-        Disk(), (Disk(),), Post(web, 1), [Post(web, 0)],
+        Disk(), (Disk(),), Post(web, 1), [Post(web, 0)], SavedHouse(web, 0, Disk()),
+        Net(web), (Net(web),), Reel(web, (), 1), [Reel(web, (), 1)], Desk(), (Desk(),),
     ]
 
 

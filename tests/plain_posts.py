@@ -1,7 +1,7 @@
 """A plain account of [8.1]: a house as tests.plain has it, with lists of all words sent and dicts of those heard."""
 import copy
 
-from tests.plain import around
+from tests.plain import House, around
 from tests.plain_rows import plain_read, plain_sealed
 from tests.worlds import World
 
@@ -103,3 +103,16 @@ class PlainPost:
                 other.house.hear(sender, word)
                 other.post()
         return ("old" if other.past() == self.past() else "new"), other
+
+
+def plain_post_of(web, number, past):
+    """The PlainPost with what is known to be a past; of words that are let go of nothing is known but how many."""
+    post = PlainPost(web, number)
+    state, outs, ins = past
+    post.house = House(web, number, state)
+    for other, (let_go, words), (taken, held) in zip(post.near, outs, ins):
+        post.sent[other] = [None] * let_go + list(words)
+        post.let_go[other] = let_go
+        post.taken[other] = taken
+        post.ahead[other] = dict(held)
+    return post

@@ -1,4 +1,4 @@
-"""The names, arguments and places of all that the interface lists so far."""
+"""The names, arguments and places of all that the interface lists."""
 import importlib
 import inspect
 import unittest
@@ -25,6 +25,11 @@ INTERFACE = {
              "unsealed": ["row"]},
     "disks": {"Disk": [], "kept_parcels": ["blocks"]},
     "posts": {"Post": ["web", "number"], "post_of": ["web", "number", "past"]},
+    "savings": {"SavedHouse": ["web", "number", "disk"]},
+    "nets": {"Net": ["web"], "led_by": ["net", "deeds"], "round_trip": ["net"], "settle": ["net", "most"]},
+    "films": {"Reel": ["web", "moves", "every"], "drawn": ["web", "glass"], "drawn_heights": ["web", "glass"],
+              "drawn_stream": ["web", "stream"]},
+    "desks": {"Desk": []},
     "texts": {"web_text": ["web"], "stream_text": ["stream"], "split_text": ["split"], "moves_text": ["moves"],
               "record_text": ["record"], "read_web": ["text"], "read_stream": ["text"], "read_split": ["text"],
               "read_moves": ["text"], "read_record": ["text"]},
@@ -37,7 +42,10 @@ METHODS = {
     ("links", "Incoming"): {"take": ["number", "thing"], "taken": [], "held": [], "state": [], "copy": []},
     ("disks", "Disk"): {"write": ["row"], "sync": [], "synced": [], "blocks": [], "cut": ["kept"], "drop": ["number"],
                         "copy": []},
-    ("posts", "Post"): POST,
+    ("posts", "Post"): POST, ("savings", "SavedHouse"): {**POST, "keep": [], "moved": ["disk"]},
+    ("nets", "Net"): {"house": ["number"], "disk": ["number"], "bag": [], "glass": [], "deed": ["thing"]},
+    ("films", "Reel"): {"stands": [], "worked": [], "glass_there": [], "seek": ["at"], "kept": [], "copy": []},
+    ("desks", "Desk"): {"tell": ["line"]},
 }
 
 

@@ -25,6 +25,9 @@ BARRED_NAMES = """register mro elements open input law version_info with_traceba
 BARRED_WORDS = re.compile(r"\b(type|typing|typing_extensions|enum|Enum|IntEnum|StrEnum|Flag|IntFlag|Generic|Protocol"
                           r"|ABC|ABCMeta|namedtuple|NamedTuple|TypedDict|TYPE_CHECKING|abstractmethod)\b"
                           r"|dataclass|overload|contextmanager")
+METHODS = """append clear copy count endswith extend find get index insert isalnum isalpha isdigit islower isspace
+    isupper items join keys ljust lower lstrip partition pop remove replace reverse rfind rjust rpartition rsplit rstrip
+    setdefault split splitlines startswith strip update upper values zfill bit_length isascii isdecimal"""
 DUNDERS = """init eq repr str len enter exit call iter lt le gt ge ne add sub mul floordiv mod pow and or xor lshift
     rshift neg pos invert abs bool contains getitem setitem""".split()
 
@@ -138,7 +141,16 @@ class Code(unittest.TestCase):
                     if not (isinstance(node, ast.Expr) and node.value in docstrings(tree)):
                         self.assertIsInstance(node, plain)
                     if isinstance(node, ast.Assign):
-                        ast.literal_eval(node.value)
+                        self.check_value(tree, node)
+
+    def check_value(self, tree, node):
+        """A literal, or a dict with functions that are defined above."""
+        above = [item.name for item in tree.body if isinstance(item, ast.FunctionDef) and item.lineno < node.lineno]
+        if isinstance(node.value, ast.Dict) and isinstance(node.value.values[0], ast.Name):
+            self.assertLessEqual({value.id for value in node.value.values}, set(above))
+            self.assertTrue(all(isinstance(ast.literal_eval(key), str) for key in node.value.keys))
+        else:
+            ast.literal_eval(node.value)
 
     def test_l6_l7_nodes(self):
         for name, tree in trees():
@@ -168,6 +180,57 @@ class Code(unittest.TestCase):
                         self.assertFalse(node.value.endswith(("._", ".__")))
                         if node not in told:
                             self.assertIsNone(BARRED_WORDS.search(node.value))
+
+    def test_l25_methods_of_builtin_values(self):
+        """Each method that is called is one of L25, or one that a class of the package has."""
+        own = {item.name for _, tree in trees() for node in ast.walk(tree) if isinstance(node, ast.ClassDef)
+               for item in node.body if isinstance(item, ast.FunctionDef)}
+        for name, tree in trees():
+            for node in ast.walk(tree):
+                if isinstance(node, ast.Call) and isinstance(node.func, ast.Attribute):
+                    self.assertIn(node.func.attr, own | set(METHODS.split()), f"{name}:{node.lineno}")
+                    self.assertTrue(node.func.attr in own or not node.keywords, f"{name}:{node.lineno}")
+
+    def test_l18_l26_names_of_methods_and_attributes(self):
+        methods, attributes = set(), set()
+        for _, tree in trees():
+            for node in ast.walk(tree):
+                if isinstance(node, ast.ClassDef):
+                    names = [item.name for item in node.body if isinstance(item, ast.FunctionDef)]
+                    self.assertEqual(len(names), len(set(names)), node.name)
+                    methods |= set(names)
+                if isinstance(node, ast.Attribute) and isinstance(node.ctx, ast.Store):
+                    attributes.add(node.attr)
+        self.assertEqual(methods & attributes, set())
+        builtin = {name for kind in (str, int, list, dict, set, bytes) for name in dir(kind)}
+        self.assertLessEqual((methods | attributes) & builtin, {"copy", "index", "__init__", "__eq__"})
+
+    def test_l18_attributes_that_are_read_are_assigned(self):
+        stored, called, loaded = set(), set(), set()
+        for _, tree in trees():
+            for node in ast.walk(tree):
+                if isinstance(node, ast.Call) and isinstance(node.func, ast.Attribute):
+                    called.add(node.func)
+                elif isinstance(node, ast.Attribute):
+                    (stored if isinstance(node.ctx, ast.Store) else loaded).add(node)
+        self.assertLessEqual({node.attr for node in loaded - called}, {node.attr for node in stored})
+
+    def test_l19_what_is_caught_and_raised(self):
+        for name, tree in trees():
+            for node in ast.walk(tree):
+                if isinstance(node, ast.ExceptHandler):
+                    self.assertNotIn(node.type.id, dir(builtins), f"{name}:{node.lineno}")
+                if isinstance(node, ast.Raise):
+                    self.assertIsInstance(node.exc, ast.Call, f"{name}:{node.lineno}")
+
+    def test_l23_kept_iterators(self):
+        """None of these is kept in a variable, returned or passed on."""
+        for name, tree in trees():
+            for node in ast.walk(tree):
+                value = node.value if isinstance(node, (ast.Assign, ast.Return)) else None
+                if isinstance(value, ast.Call) and isinstance(value.func, ast.Name):
+                    self.assertNotIn(value.func.id, ("zip", "range", "enumerate", "reversed", "map", "iter"),
+                                     f"{name}:{node.lineno}")
 
     def test_l25_no_sort_in_place(self):
         for name, tree in trees():
