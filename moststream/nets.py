@@ -44,13 +44,13 @@ def _post(net, parts):
 
 def _bring(net, parts):
     to, row = _letter_in(net, parts[0])
-    del net.letters[parts[0]]
+    net.letters.pop(parts[0])
     return net.houses[to].deed(("hear", row))
 
 
 def _lose(net, parts):
     _letter_in(net, parts[0])
-    del net.letters[parts[0]]
+    net.letters.pop(parts[0])
 
 
 def _double(net, parts):

@@ -126,10 +126,10 @@ def _parcel_at(row, place, deep):
 
 def _whole_at(row, place):
     """The pair of the number whose whole stands at a place, and the place behind it."""
-    _check_there(row, place)
     last = place
     while last < len(row) and row[last] >= FIGURE_LIMIT:
         last += 1
+    # Where the row is at its end already, this place is its length.
     if last == len(row) or (row[last] == 0 and last > place):
         raise BadRow(place)
     number = 0

@@ -59,7 +59,7 @@ class SavedHouse(Post):
             raise NoDisk()
         disk.write(_first_block(self.web, self.number))
         disk.write(sealed(("past", self.past())))
-        disk.sync()
+        # What is made of a disk syncs it.
         return SavedHouse(self.web, self.number, disk)
 
 
