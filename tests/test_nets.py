@@ -174,8 +174,9 @@ class Deeds(unittest.TestCase):
         self.net.deed(("send", 0, (1,)))
         self.cant((), ("start",), ("start", 0, 0), ["start", 0], ("Start", 0), ("hear", 0), (("start",), 0),
                   (b"start", 0), (None,), ("stop",), ("keep",), ("post", 0), ("post", 0, 1, 0), ("bring",),
-                  ("bring", 0, 0), ("lose",), ("lose", 0, 0), ("double", 0, 0), ("spoil", 0, 0), ("spoil", 0, 0, 0, 0), ("send", 0),
-                  ("send", 0, (), 0), ("cut", 0), ("cut", 0, (), 0), "start", None, {"start": 0}, *odd_things())
+                  ("bring", 0, 0), ("lose",), ("lose", 0, 0), ("double", 0, 0), ("spoil", 0, 0),
+                  ("spoil", 0, 0, 0, 0), ("send", 0), ("send", 0, (), 0), ("cut", 0), ("cut", 0, (), 0),
+                  "start", None, {"start": 0}, *odd_things())
         for sort in ("start", "keep", "bring", "lose", "double"):
             self.cant(*[(sort, thing) for thing in odd_things() if not (type(thing) is int and thing == 0)])
         for thing in odd_things():

@@ -318,7 +318,7 @@ class Drawn(unittest.TestCase):
             self.assertEqual(row, sealed(traffic.plain[one].letter(other)))
             traffic.bag.append((other, row))
         elif deed < 9 and traffic.bag:
-            at = draw.below(len(traffic.bag))
+            at = len(traffic.bag) - 1 - draw.below(draw.one_of((len(traffic.bag), min(len(traffic.bag), 4))))
             number, row = traffic.bag[at] if draw.below(3) else traffic.bag.pop(at)
             self.assertEqual(*traffic.hear(number, row))
         elif deed == 9 and traffic.bag:
